@@ -1,0 +1,1 @@
+"""Spelledways: a store of lines, and walks that spell a question."""

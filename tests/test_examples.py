@@ -1,0 +1,64 @@
+"""The worked examples of the sections that have landed, as the document writes them."""
+
+import doctest
+import unittest
+
+SECTION_3 = r'''
+    >>> from spelledways.bytesform import get_value, put_key, put_number, put_writes, read_whole
+    >>> from spelledways.keys import cover, map_of, meets, put_in_map
+    >>> from spelledways.sums import check_sum, put_frame, read_frames
+    >>> map_of((("b", 1), ("a", "x y"), ("b", None))), put_in_map((("a", 1),), "a", 2)
+    ((('a', 'x y'),), (('a', 2),))
+    >>> meets((None, "c"), ("d", None)), cover((None, "c"), ("d", "f"))
+    (False, (None, 'f'))
+    >>> put_number(300), put_key("a1"), put_writes((("a", -1), ("b", None)))
+    ((172, 2), (97, 49, 0), (2, 97, 0, 1, 1, 98, 0, 0))
+    >>> get_value((9, 2, 2, 104, 105, 7), 1), read_whole("numbers", (2, 5, 128, 1))
+    (('hi', 5), (5, 128))
+    >>> check_sum((255, 255)), put_frame((7,))
+    (131071, (0, 1, 255, 254, 7, 2, 0, 3, 7))
+    >>> read_frames(put_frame((7,)) + (0, 0, 255)), read_frames(put_frame(()) + (0, 0, 0, 0))
+    ((((7,),), 9, 'cut'), (((),), 8, 'broken'))
+'''
+
+SECTION_5 = r'''
+    >>> from spelledways.freeing import Keeper, costs, holds, kept
+    >>> from spelledways.versions import spans
+    >>> spans(((1, "a"), (3, "b"))), kept(((1, "a"), (3, None), (4, "c"), (6, None)), (3, 4)), kept(((2, None),), ())
+    (((1, 2), (3, None)), ((4, 'c'), (6, None)), ())
+    >>> keeper = Keeper()
+    >>> keeper.commit((("x", 1), ("y", 1))), keeper.begin(), keeper.commit((("x", 2),)), keeper.begin()
+    ((1, ()), 1, (2, ()), 2)
+    >>> keeper.commit((("x", None),)), holds(keeper, 1), keeper.read(1, "x"), keeper.scan(2, None, None)
+    ((3, ()), (('x', (1, 1)),), 1, (('x', 2), ('y', 1)))
+    >>> costs(keeper, 2), keeper.close(2), keeper.close(1), keeper.versions.rows()
+    ((('x', (2, 2)),), (('x', (2, 2)),), (('x', (1, 1)), ('x', (3, None))), (('y', ((1, 1),)),))
+'''
+
+SECTION_6 = r'''
+    >>> from spelledways.graphs import all_done, EMPTY
+    >>> from spelledways.lines import map_of_graph
+    >>> graph = all_done(EMPTY, (("line", ("a", "road", "b"), 5), ("node", "c")))
+    >>> graph, map_of_graph(graph)
+    ((('a', 'b', 'c'), ((('a', 'road', 'b'), 5),)), (('_b_road_a', 5), ('a', 0), ('a_road_b', 5), ('b', 0), ('c', 0)))
+'''
+
+
+class ExamplesTest(unittest.TestCase):
+    def look_at(self, text, many):
+        told = doctest.DocTestParser().get_doctest(text, {}, "the document", None, 0)
+        self.assertEqual(len(told.examples), many)
+        self.assertEqual(doctest.DocTestRunner(verbose=False).run(told).failed, 0)
+
+    def test_section_3(self):
+        self.look_at(SECTION_3, 9)
+
+    def test_section_5(self):
+        self.look_at(SECTION_5, 7)
+
+    def test_section_6(self):
+        self.look_at(SECTION_6, 4)
+
+
+if __name__ == "__main__":
+    unittest.main()

@@ -1,0 +1,92 @@
+"""The names, parameters and places of all that has landed, as the document's interface lists them."""
+
+import importlib
+import inspect
+import unittest
+
+FUNCTIONS = {
+    "keys": """is_key(value) is_value(value) is_entry(value) need_key(value) need_value(value) is_map(value)
+        need_map(value) need_range(value) in_range(bounds,key) is_empty_range(bounds) meets(bounds,other)
+        cover(bounds,other) entries_in(entries,bounds) value_in(entries,key) put_in_map(entries,key,value)
+        map_of(pairs)""",
+    "bytesform": """put_number(number) get_number(octets,at) put_integer(integer) get_integer(octets,at)
+        put_numbers(numbers) get_numbers(octets,at) put_key(key) get_key(octets,at) put_text(text) get_text(octets,at)
+        put_value(value) get_value(octets,at) put_writes(pairs) get_writes(octets,at) put_entries(entries)
+        get_entries(octets,at) put_range(bounds) get_range(octets,at) read_whole(word,octets)""",
+    "sums": "check_sum(octets) put_frame(body) get_frame(octets,at) read_frames(octets)",
+    "pages": """half_of(most) is_root(most,value) depth(page) shape(page) entries(page) look(page,key) has(page,key)
+        scan(page,low,high,*,limit=None) fewest(most,deep) greatest(most,deep) fresh(old,new)""",
+    "treewalks": """first(page) last(page) after(page,key) before(page,key) built(most,entries) joined(most,left,right)
+        parted(most,page,key) without_range(most,page,low,high) differences(one,other) changed(most,page,rows)
+        turned(rows) added(first,second)""",
+    "versions": """seen(row,stamp) value_at(row,stamp) spans(row) need_writes(value) versions_from(rows,now,stamps)""",
+    "freeing": "kept(row,stamps) free(versions,stamps) holds(keeper,stamp) costs(keeper,stamp)",
+    "graphs": """is_node(value) is_kind(value) is_price(value) is_line(value) need_line(value) is_graph(value)
+        need_graph(value) is_deed(value) need_deed(value) need_batch(value) done(graph,deed) all_done(graph,batch)
+        kinds_of(graph) line_price(graph,line) lines_at(graph,node,kind,way) next_nodes(graph,node,kind,way)
+        steps_at(graph,node) turned_graph(graph) part_graph(graph,nodes) renamed_graph(graph,names)
+        between(graph,other) backward(graph,batch)""",
+    "lines": """map_of_graph(graph) line_of_key(key) graph_of_map(value) is_graph_map(value) writes_of_deed(graph,deed)
+        writes_of_batch(graph,batch) line_range(node,kind,way) tree_of_graph(most,graph)
+        lines_in_tree(page,node,kind,way)""",
+    "waysof": """step_ends(step) need_walk(graph,value) is_walk(graph,value) walk_nodes(walk) walk_end(walk)
+        walk_word(walk) walk_price(graph,walk) walk_key(walk) turned_word(word) turned_walk(walk)
+        joined_walks(one,other) part_walk(walk,low,high) walks_of(graph,node,word) ends_of(graph,nodes,word)""",
+    "formulas": """is_question(value) need_question(value) need_kinds(value) letters_over(kinds) kinds_in(question)
+        question_size(question) question_spread(question) spells_empty(question) spells(question,word)
+        turned_question(question) strange_kind(kinds) wide_kinds(one,other)""",
+}
+
+METHODS = {
+    ("tree", "Tree"): """__init__(self,most) root(self) put(self,key,thing) take(self,key) look(self,key)
+        has(self,key) scan(self,low=None,high=None,*,limit=None) take_range(self,low,high) depth(self)""",
+    ("versions", "Versions"): """__init__(self) how_many(self) add(self,writes) row(self,key) rows(self)
+        readable(self,stamp) version_at(self,key,stamp) read(self,key,stamp) scan(self,low,high,stamp)""",
+    ("snapshots", "Snapshots"): """__init__(self) begin(self,stamp) stamp_of(self,number) close(self,number)
+        live(self) holders(self,stamp) last_within(self,first,last)""",
+    ("freeing", "Keeper"): """__init__(self) begin(self,stamp=None) commit(self,writes) close(self,number)
+        read(self,number,key) scan(self,number,low,high)""",
+}
+
+ERRORS = """StoreError InvalidKey InvalidValue InvalidRange InvalidOctets InvalidGraph InvalidLine InvalidWalk
+    InvalidQuestion InvalidAsk InvalidPattern InvalidDeed InvalidText InvalidSize InvalidCommand Refused NoName"""
+
+
+def module_of(name):
+    return importlib.import_module("spelledways." + name)
+
+
+class InterfaceTest(unittest.TestCase):
+    def look_at(self, name, told, home, where):
+        found = vars(home).get(told.partition("(")[0])
+        self.assertTrue(inspect.isfunction(found), told)
+        self.assertEqual(found.__module__, "spelledways." + name, told)
+        self.assertEqual(found.__name__ + str(inspect.signature(found)).replace(" ", ""), told, where)
+
+    def test_functions(self):
+        for name, told in FUNCTIONS.items():
+            for one in told.split():
+                self.look_at(name, one, module_of(name), name)
+
+    def test_methods_stand_in_the_class_itself(self):
+        for (name, word), told in METHODS.items():
+            found = vars(module_of(name))[word]
+            self.assertTrue(inspect.isclass(found))
+            self.assertEqual(found.__module__, "spelledways." + name)
+            for one in told.split():
+                self.look_at(name, one, found, word)
+        tree = vars(vars(module_of("tree"))["Tree"])
+        self.assertIn("__len__", tree)
+        self.assertIn("__contains__", tree)
+
+    def test_errors(self):
+        for word in ERRORS.split():
+            self.assertEqual(vars(module_of("errors"))[word].__module__, "spelledways.errors")
+
+    def test_values(self):
+        self.assertEqual(repr(module_of("pages").EMPTY), "('leaf', ())")
+        self.assertEqual(repr(module_of("graphs").EMPTY), "((), ())")
+
+
+if __name__ == "__main__":
+    unittest.main()
