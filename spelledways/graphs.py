@@ -159,11 +159,10 @@ def prices_of(graph):
 
 def line_price(graph, line):
     """The price of a line that is there."""
-    # What is no line may not be looked for in a dict: it may have no hash.
-    prices = prices_of(graph) if is_line(line) else {}
-    if not is_line(line) or line not in prices:
-        raise NoName(line)
-    return prices[line]
+    for other, price in graph[1]:
+        if other == line:
+            return price
+    raise NoName(line)
 
 
 def kinds_of(graph):

@@ -2,7 +2,7 @@
 
 from spelledways.errors import InvalidSize, InvalidWalk, Refused
 from spelledways.graphs import ascending, begin_of, end_of, is_line, is_way, lines_at, next_nodes, prices_of
-from spelledways.plain import is_number, is_tuple_of
+from spelledways.plain import is_tuple_of
 
 
 def step_ends(step):
@@ -88,9 +88,9 @@ def joined_walks(one, other):
 
 def part_walk(walk, low, high):
     """The walk of the steps from the number low up to, without, high."""
-    if not is_number(low) or low > len(walk[1]):
+    if low < 0 or low > len(walk[1]):
         raise InvalidSize("low")
-    if not is_number(high) or high < low or high > len(walk[1]):
+    if high < low or high > len(walk[1]):
         raise InvalidSize("high")
     return walk_nodes(walk)[low], walk[1][low:high]
 

@@ -90,6 +90,20 @@ class FramesTest(Case):
                     if octet != frame[at]:
                         self.look_at_change(ahead, frame, frame[:at] + (octet,) + frame[at + 1:])
 
+    def test_each_pair_of_neighbours(self):
+        frame = put_frame((7,))
+        octets = [(one, other) for one in range(256) for other in range(256)]
+        for at in range(len(frame) - 1):
+            ahead, behind, here = frame[:at], frame[at + 2:], frame[at:at + 2]
+            words = {self.word_of(ahead + pair + behind) for pair in octets if pair != here}
+            self.assertEqual(words, {"broken"}, at)
+
+    def word_of(self, octets):
+        try:
+            return get_frame(octets, 0)
+        except Refused as refusal:
+            return refusal.word
+
     def test_changed_neighbours(self):
         rng = random.Random(4)
         ahead = put_frame((8, 8))

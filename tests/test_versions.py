@@ -182,7 +182,7 @@ class FromTest(Case):
             (InvalidKey, 0, (("A", ()),)), (InvalidKey, 0, (("", ()),)), (InvalidKey, 1, (good, good)), (InvalidKey, 1, (good, None)),
             (InvalidKey, 1, (("b", ((1, 0),)), good)), (InvalidKey, 0, (("a", ((1, 0),), 3),)),
             (InvalidValue, 0, (("a", ()),)), (InvalidValue, 0, (("a", [(1, 0)]),)), (InvalidValue, 0, (("a", ([1, 0],)),)),
-            (InvalidValue, 0, (("a", ((0, 0),)),)), (InvalidValue, 0, (("a", ((6, 0),)),)), (InvalidValue, 0, (("a", ((1, 0), (6, 0))),)),
+            (InvalidValue, 0, (("a", ((0, 0),)),)), (InvalidValue, 0, (("a", ((0, 0), (1, 0))),)), (InvalidValue, 0, (("a", ((6, 0),)),)), (InvalidValue, 0, (("a", ((1, 0), (6, 0))),)),
             (InvalidValue, 0, (("a", ((1, 0), (1, 0))),)), (InvalidValue, 0, (("a", ((2, 0), (1, 0))),)),
             (InvalidValue, 0, (("a", ((True, 0),)),)), (InvalidValue, 0, (("a", ((1, True),)),)), (InvalidValue, 0, (("a", ((1, "!"),)),)),
             (InvalidValue, 0, (("a", ((1,),)),)), (InvalidValue, 0, (("a", None),)), (InvalidValue, 1, (good, ("b", ()))),
