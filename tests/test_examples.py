@@ -1,6 +1,7 @@
 """The worked examples of the sections that have landed, as the document writes them."""
 
 import doctest
+import os
 import unittest
 
 SECTION_3 = r'''
@@ -49,6 +50,11 @@ class ExamplesTest(unittest.TestCase):
         told = doctest.DocTestParser().get_doctest(text, {}, "the document", None, 0)
         self.assertEqual(len(told.examples), many)
         self.assertEqual(doctest.DocTestRunner(verbose=False).run(told).failed, 0)
+
+    def test_readme(self):
+        path = os.path.join(os.path.dirname(os.path.dirname(os.path.abspath(__file__))), "README.md")
+        with open(path, encoding="utf-8") as held:
+            self.look_at(held.read(), 10)
 
     def test_section_3(self):
         self.look_at(SECTION_3, 9)
