@@ -4,6 +4,7 @@ import unittest
 
 from spelledways.errors import InvalidKey
 from spelledways.freeing import Keeper
+from spelledways.machines import Machine
 from spelledways.snapshots import Snapshots
 from spelledways.tree import Tree
 from spelledways.versions import Versions
@@ -38,6 +39,7 @@ def odd_values():
         nested(30, tuple), nested(30, list), ("row", nested(29, list)),
         Tree(3), Versions(), Snapshots(), Keeper(), InvalidKey(3), (Tree(4),), [Tree(4)],
         ("leaf", Tree(3)), (Versions(), Versions()), ("x", "y"), ("leaf",), ("branch", (), ()),
+        Machine(("a",), 1, (), 0, ()),
     ]
 
 
