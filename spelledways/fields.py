@@ -41,7 +41,7 @@ def on_shortest_ways(moves, numbers, ends):
     while waiting:
         place = waiting.pop()
         for other in moves.ahead(place):
-            if other not in found and numbers.get(other, -1) == numbers[place] - 1:
+            if other not in found and numbers.get(other) == numbers[place] - 1:
                 found[other] = True
                 waiting.append(other)
     return found
@@ -52,7 +52,7 @@ def first_walk(moves, numbers, goals):
     many = nearest(numbers, goals)
     if many is None:
         return None
-    inside = on_shortest_ways(moves, numbers, [place for place in goals if numbers.get(place, -1) == many])
+    inside = on_shortest_ways(moves, numbers, [place for place in goals if numbers.get(place) == many])
     # The beginnings have one state: so the least of them is the one with the least node.
     place = min([place for place in inside if numbers[place] == 0])
     node = place[0]
@@ -79,14 +79,14 @@ def lots_by_number(pairs):
 def has_sure_way(numbers, moves, place, doubt):
     """Whether some move into a place comes from a place out of doubt with a number less by one."""
     number = numbers[place] - 1
-    return any([other not in doubt and numbers.get(other, -1) == number for other in moves.ahead(place)])
+    return any([other not in doubt and numbers.get(other) == number for other in moves.ahead(place)])
 
 
 def doubt_in(numbers, moves, lost):
     """A dict, with their numbers, of the places of a field that are in doubt without some lines.
 
     `moves` are those without the lines; `lost` has the pairs of places ahead of and behind the moves along them."""
-    ends = [behind for ahead, behind in lost if ahead in numbers and numbers.get(behind, -1) == numbers[ahead] + 1]
+    ends = [behind for ahead, behind in lost if ahead in numbers and numbers.get(behind) == numbers[ahead] + 1]
     lots = lots_by_number([(place, numbers[place]) for place in ends])
     last = max(list(lots), default=0)
     found = {}

@@ -44,6 +44,39 @@ SECTION_6 = r'''
     ((('a', 'b', 'c'), ((('a', 'road', 'b'), 5),)), (('_b_road_a', 5), ('a', 0), ('a_road_b', 5), ('b', 0), ('c', 0)))
 '''
 
+# Of this section, what needs no text of a question.
+SECTION_7 = r'''
+    >>> from spelledways.least import fewest_paper, least_machine
+    >>> ride = ("row", (("star", ("one", "bus", 1)), ("one", "bus", 1)))
+    >>> machine = least_machine(ride, ("bus",))
+    >>> machine.many, machine.steps, machine.ends
+    (2, ((0, ('bus', 1), 1), (1, ('bus', 1), 1)), (1,))
+    >>> fewest_paper(ride, ("bus",))
+    (((), (('bus', 1),)), ((('bus', 1),), ()), ((0, 1, ()),))
+'''
+
+SECTION_8 = r'''
+    >>> from spelledways.search import distances, walk_for
+    >>> graph = (("a", "b", "c"), ((("a", "x", "b"), 5), (("b", "x", "c"), 1), (("c", "y", "a"), 0)))
+    >>> around = ("row", (("star", ("one", "x", 1)), ("one", "y", 1)))
+    >>> distances(graph, around)
+    (('a', 'a', 3), ('b', 'a', 2), ('c', 'a', 1))
+    >>> walk_for(graph, (None, around, "a")), walk_for(graph, ("a", around, "b"))
+    (('c', ((('c', 'y', 'a'), 1),)), None)
+    >>> from spelledways.shut import check_shut, shut_set
+    >>> shut_set(graph, ("a", ("one", "x", 1), "c")), check_shut(graph, ("a", ("one", "x", 1), "c"), (("a", 0),))
+    ((('a', 0), ('b', 1)), False)
+'''
+
+SECTION_10 = r'''
+    >>> from spelledways.distances import doubtful, field
+    >>> graph = (("a", "b", "c"), ((("a", "x", "b"), 1), (("a", "y", "c"), 1), (("b", "x", "c"), 1)))
+    >>> way = ("star", ("any", 1))
+    >>> rows = field(graph, way, "a")
+    >>> rows, doubtful(graph, way, rows, (("a", "y", "c"),))
+    (((('a', 0), 0), (('b', 0), 1), (('c', 0), 1)), (('c', 0),))
+'''
+
 
 class ExamplesTest(unittest.TestCase):
     def look_at(self, text, many):
@@ -54,7 +87,7 @@ class ExamplesTest(unittest.TestCase):
     def test_readme(self):
         path = os.path.join(os.path.dirname(os.path.dirname(os.path.abspath(__file__))), "README.md")
         with open(path, encoding="utf-8") as held:
-            self.look_at(held.read(), 10)
+            self.look_at(held.read(), 16)
 
     def test_section_3(self):
         self.look_at(SECTION_3, 9)
@@ -64,6 +97,15 @@ class ExamplesTest(unittest.TestCase):
 
     def test_section_6(self):
         self.look_at(SECTION_6, 4)
+
+    def test_section_7(self):
+        self.look_at(SECTION_7, 5)
+
+    def test_section_8(self):
+        self.look_at(SECTION_8, 7)
+
+    def test_section_10(self):
+        self.look_at(SECTION_10, 5)
 
 
 if __name__ == "__main__":

@@ -35,6 +35,20 @@ FUNCTIONS = {
     "formulas": """is_question(value) need_question(value) need_kinds(value) letters_over(kinds) kinds_in(question)
         question_size(question) question_spread(question) spells_empty(question) spells(question,word)
         turned_question(question) strange_kind(kinds) wide_kinds(one,other)""",
+    "machines": "is_machine(value) is_single(machine) machine_of(question,kinds)",
+    "least": """least(machine) least_machine(question,kinds) machine_both(one,other) machine_either(one,other)
+        machine_but(one,other) machine_apart(one,other) turned_machine(machine) state_heads(machine) state_goes(machine)
+        state_tails(machine) fewest_paper(question,kinds) check_fewest(question,kinds,value)""",
+    "places": """need_ask(value) machine_for(graph,question) starts(graph,ask) goals(graph,ask) moves(graph,question,place)
+        place_behind(graph,question,walk) answers_ask(graph,ask,value)""",
+    "search": """reached(graph,ask) distances(graph,question) answers_of(graph,ask) answers(graph,question)
+        distance(graph,ask) walk_for(graph,ask)""",
+    "shut": "check_shut(graph,ask,value) shut_set(graph,ask) widest_shut(graph,ask)",
+    "records": "put_record(stamp,writes) put_image(stamp,entries) get_image(octets) records_of(octets)",
+    "recovery": "base_of(disk) recover(disk) mend(disk)",
+    "distances": """kept_machine(question) read_kind(question,kind) moves_from(graph,question,place)
+        moves_into(graph,question,place) field(graph,question,node) check_field(graph,question,node,value)
+        doubtful(graph,question,rows,lines) mended(graph,question,rows,places) nearer(graph,question,rows,lines)""",
 }
 
 METHODS = {
@@ -46,6 +60,8 @@ METHODS = {
         live(self) holders(self,stamp) last_within(self,first,last)""",
     ("freeing", "Keeper"): """__init__(self) begin(self,stamp=None) commit(self,writes) close(self,number)
         read(self,number,key) scan(self,number,low,high)""",
+    ("machines", "Machine"): """__init__(self,kinds,many,steps,start,ends) next_states(self,state,letter)
+        next_state(self,state,letter) states_behind(self,word) accepts(self,word) __eq__(self,other)""",
 }
 
 ERRORS = """StoreError InvalidKey InvalidValue InvalidRange InvalidOctets InvalidGraph InvalidLine InvalidWalk
