@@ -1,5 +1,8 @@
 """What the document calls integers, numbers and sequences: True and False are none of the first two."""
 
+LETTERS = "abcdefghijklmnopqrstuvwxyz"
+MOST_NAME_LETTERS = 8
+
 
 def is_whole(value):
     """Whether a value is an integer."""
@@ -19,3 +22,10 @@ def is_sequence(value):
 def is_tuple_of(value, many):
     """Whether a value is a tuple of so many things."""
     return isinstance(value, tuple) and len(value) == many
+
+
+def is_name(value):
+    """Whether a value is a string of 1 to 8 lower-case letters."""
+    if not isinstance(value, str) or not 1 <= len(value) <= MOST_NAME_LETTERS:
+        return False
+    return all([sign in LETTERS for sign in value])

@@ -68,6 +68,20 @@ SECTION_8 = r'''
     ((('a', 0), ('b', 1)), False)
 '''
 
+SECTION_9 = r'''
+    >>> from spelledways.log import Journal
+    >>> from spelledways.recovery import mend, recover
+    >>> journal = Journal(((), (), ()))
+    >>> journal.write((("a", 1),)), journal.write((("a", None), ("b", "x"))), journal.choices(), journal.sure()
+    (1, 2, (1, 1, 33), 0)
+    >>> [recover(journal.cut((0, 0, steps)))[:2] for steps in (0, 13, 14, 32)]
+    [(0, ()), (0, ()), (1, (('a', 1),)), (2, (('b', 'x'),))]
+    >>> journal.image(), journal.write((("c", 0),)), journal.sure(), journal.stamp
+    (None, 3, 2, 3)
+    >>> recover(journal.cut((0, 0, 0))), [len(octets) for octets in journal.disk()]
+    ((2, (('b', 'x'),), 'whole'), [15, 0, 14])
+'''
+
 SECTION_10 = r'''
     >>> from spelledways.distances import doubtful, field
     >>> graph = (("a", "b", "c"), ((("a", "x", "b"), 1), (("a", "y", "c"), 1), (("b", "x", "c"), 1)))
@@ -75,6 +89,32 @@ SECTION_10 = r'''
     >>> rows = field(graph, way, "a")
     >>> rows, doubtful(graph, way, rows, (("a", "y", "c"),))
     (((('a', 0), 0), (('b', 0), 1), (('c', 0), 1)), (('c', 0),))
+'''
+
+SECTION_1 = r'''
+    >>> from spelledways.store import Store
+    >>> store = Store()
+    >>> store.change((("line", ("a", "bus", "b"), 2), ("line", ("c", "bus", "b"), 3)))
+    1
+    >>> question = ("row", (("one", "bus", 1), ("one", "bus", -1)))
+    >>> store.ask(question)
+    (('a', 'a'), ('a', 'c'), ('c', 'a'), ('c', 'c'))
+    >>> store.walk(("a", question, "c"))
+    ('a', ((('a', 'bus', 'b'), 1), (('c', 'bus', 'b'), -1)))
+'''
+
+# Of this section, what stands ahead of its last point.
+SECTION_14 = r'''
+    >>> from spelledways.store import Store
+    >>> store, question = Store(), ("row", (("one", "bus", 1), ("one", "bus", -1)))
+    >>> store.change((("line", ("a", "bus", "b"), 2), ("line", ("c", "bus", "b"), 3)))
+    1
+    >>> store.keep("two", question), store.watch("two"), store.look(), store.undo(), store.heard(1)
+    ((('a', 'a'), ('a', 'c'), ('c', 'a'), ('c', 'c')), 1, 1, True, ((2, (), (('a', 'a'), ('a', 'c'), ('c', 'a'), ('c', 'c'))),))
+    >>> store.graph(), store.shut(("a", question, None)), store.ask(question, 1)[1], store.costs(1)[0]
+    (((), ()), (), ('a', 'c'), ('_b_bus_a', (1, 2)))
+    >>> store.forbid("back", question), store.broken_by((("line", ("d", "bus", "e"), 0),))
+    (None, (('back', ('d', ((('d', 'bus', 'e'), 1), (('d', 'bus', 'e'), -1)))),))
 '''
 
 
@@ -87,7 +127,7 @@ class ExamplesTest(unittest.TestCase):
     def test_readme(self):
         path = os.path.join(os.path.dirname(os.path.dirname(os.path.abspath(__file__))), "README.md")
         with open(path, encoding="utf-8") as held:
-            self.look_at(held.read(), 16)
+            self.look_at(held.read(), 28)
 
     def test_section_3(self):
         self.look_at(SECTION_3, 9)
@@ -103,6 +143,15 @@ class ExamplesTest(unittest.TestCase):
 
     def test_section_8(self):
         self.look_at(SECTION_8, 7)
+
+    def test_section_1(self):
+        self.look_at(SECTION_1, 6)
+
+    def test_section_9(self):
+        self.look_at(SECTION_9, 7)
+
+    def test_section_14(self):
+        self.look_at(SECTION_14, 6)
 
     def test_section_10(self):
         self.look_at(SECTION_10, 5)

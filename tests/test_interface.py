@@ -49,6 +49,12 @@ FUNCTIONS = {
     "distances": """kept_machine(question) read_kind(question,kind) moves_from(graph,question,place)
         moves_into(graph,question,place) field(graph,question,node) check_field(graph,question,node,value)
         doubtful(graph,question,rows,lines) mended(graph,question,rows,places) nearer(graph,question,rows,lines)""",
+    "graphtext": "graph_text(graph) read_graph(value) batch_text(batch) read_batch(value) walk_text(walk) read_walk(value)",
+    "files": "is_disk(value)",
+    "pins": """graph_of(pins,name) asked(pins,name,question) effect_between(pins,one,other,question)
+        added_effects(first,second) cost(pins,names) held_by(pins,key) values_kept(rows,stamps,now)
+        thinned(rows,stamps,now,many)""",
+    "watchers": "effect_of(pairs,others) put_effect(pairs,effect) all_effects(effects)",
 }
 
 METHODS = {
@@ -62,6 +68,20 @@ METHODS = {
         read(self,number,key) scan(self,number,low,high)""",
     ("machines", "Machine"): """__init__(self,kinds,many,steps,start,ends) next_states(self,state,letter)
         next_state(self,state,letter) states_behind(self,word) accepts(self,word) __eq__(self,other)""",
+    ("files", "Files"): """__init__(self,start) add(self,place,octets) keep(self,place,size) sync(self,place)
+        octets_of(self,place) disk(self) choices(self) cut(self,numbers)""",
+    ("log", "Journal"): """__init__(self,start) write(self,pairs) sync(self) draw(self) settle(self) image(self) sure(self)
+        choices(self) cut(self,numbers) disk(self)""",
+    ("kept", "Kept"): """__init__(self,graph,question) graph(self) pairs(self) touched(self) change(self,batch)
+        far(self,one,other) walk(self,one,other) paper(self,one,other)""",
+    ("pins", "Pins"): """__init__(self) commit(self,writes) pin(self,name,stamp=None) unpin(self,name) stamp_of(self,name)
+        names(self) read(self,name,key) scan(self,name,low=None,high=None)""",
+    ("store", "Store"): """__init__(self,start=((),(),())) graph(self,number=None) broken_by(self,batch) change(self,batch)
+        undo(self) redo(self) look(self) leave(self,number) costs(self,number) ask(self,question,number=None)
+        walk(self,ask,number=None) shut(self,ask,number=None) keep(self,name,question) kept(self,name)
+        kept_walk(self,name,one,other) let_go(self,name) names(self) forbid(self,name,question) allow(self,name) rules(self)
+        watch(self,name) heard(self,number) unwatch(self,number) sync(self) draw(self) settle(self) sure(self) choices(self)
+        cut(self,numbers) disk(self)""",
 }
 
 ERRORS = """StoreError InvalidKey InvalidValue InvalidRange InvalidOctets InvalidGraph InvalidLine InvalidWalk

@@ -169,7 +169,8 @@ class LanguageTest(unittest.TestCase):
                 self.assertIn(node.id, BUILTINS, (name, node.lineno))
                 self.assertIsInstance(node.ctx, ast.Load)
             if isinstance(node, ast.FormattedValue):
-                self.assertFalse([part for part in ast.walk(node) if isinstance(part, ast.Constant)])
+                inside = [part.value for part in ast.walk(node) if isinstance(part, ast.Constant)]
+                self.assertFalse([part for part in inside if not isinstance(part, int)], (name, node.lineno))
 
     def test_l8_l12_l15_l17_names(self):
         for name, tree in self.trees.items():
