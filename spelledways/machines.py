@@ -76,7 +76,9 @@ def is_machine(value):
         return False
     if not isinstance(value.kinds, tuple) or not all([is_kind(kind) for kind in value.kinds]):
         return False
-    if not isinstance(value.steps, tuple) or not isinstance(value.ends, tuple) or not is_state(value.start, value.many):
+    if not isinstance(value.steps, tuple) or not isinstance(value.ends, tuple):
+        return False
+    if not is_state(value.start, value.many):
         return False
     if not all([is_step_over(step, value.kinds, value.many) for step in value.steps]):
         return False

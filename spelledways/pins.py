@@ -3,7 +3,6 @@
 from spelledways.errors import InvalidSize, NoName, Refused
 from spelledways.freeing import Keeper, gone
 from spelledways.graphs import ascending
-from spelledways.keys import need_key
 from spelledways.lines import graph_of_map, is_graph_map
 from spelledways.plain import is_name, is_number
 from spelledways.search import answers
@@ -93,7 +92,6 @@ def cost(pins, names):
 
 def held_by(pins, key):
     """For each version of a key that is there the pair of it and the names that see it."""
-    need_key(key)
     row = pins.keeper.versions.row(key)
     stamps = [(name, pins.stamp_of(name)) for name in pins.names()]
     lots = [tuple([name for name, stamp in stamps if in_span(span, stamp)]) for span in spans(row)]
@@ -134,7 +132,7 @@ def thinned(rows, stamps, now, many):
     table = added_values(value_spans(rows), stamps, now)
     # For each place (-1 ahead of all) the fewest values that so many stamps behind it add. A span is seen by
     # neighbours: so what a stamp adds hangs on the last one ahead alone.
-    levels = [{at: 0 for at in range(-1, len(stamps))}]
+    levels = [{at: 0 for at in range(len(stamps))}]
     for left in range(1, many + 1):
         fewest = {}
         for ahead in range(-1, len(stamps) - left):

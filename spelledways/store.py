@@ -236,7 +236,7 @@ class Store:
         self.keeper.commit(writes)
         self.now += 1
         self._graph = graph
-        for name in self._kept:
+        for name in self.names():
             came, went = self._kept[name].change(batch)
             if came or went:
                 self._tell(name, (self.now, came, went))
