@@ -166,3 +166,11 @@ def map_of(pairs):
     for key, value in pairs:
         entries = put_in_map(entries, key, value)
     return entries
+
+
+def writes_to(entries, others):
+    """The pairs of a key and a value or None, as few as can be, that lead from one map to another, ascending."""
+    ahead = {key: value for key, value in entries}
+    behind = {key: value for key, value in others}
+    keys = sorted(set(list(ahead) + list(behind)))
+    return tuple([(key, behind.get(key)) for key in keys if ahead.get(key) != behind.get(key)])

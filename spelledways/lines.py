@@ -2,7 +2,7 @@
 
 from spelledways.errors import InvalidGraph
 from spelledways.graphs import all_done, done, is_kind, is_node, is_price
-from spelledways.keys import is_map
+from spelledways.keys import is_map, writes_to
 from spelledways.pages import scan
 from spelledways.treewalks import built
 
@@ -68,10 +68,7 @@ def is_graph_map(value):
 
 def map_changes(graph, other):
     """The keys whose values the maps of two graphs have unlike, with the value in the second, None for nothing."""
-    ahead = {key: value for key, value in map_of_graph(graph)}
-    behind = {key: value for key, value in map_of_graph(other)}
-    keys = sorted(set(list(ahead) + list(behind)))
-    return tuple([(key, behind.get(key)) for key in keys if ahead.get(key) != behind.get(key)])
+    return writes_to(map_of_graph(graph), map_of_graph(other))
 
 
 def writes_of_deed(graph, deed):

@@ -54,6 +54,10 @@ class Journal:
         if self.stamp == stamp:
             self._files.keep(LOG, 0)
 
+    def drawn(self):
+        """The stamp at which an image was drawn that is not settled, or None."""
+        return None if self._drawn is None else self._drawn[1]
+
     def image(self):
         """Draw an image, and settle it."""
         self.draw()

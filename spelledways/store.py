@@ -46,6 +46,8 @@ class Store:
         self.now = self.journal.stamp
         self.keeper = keeper_of(self.journal.entries, self.now)
         self._graph = graph_of_map(self.journal.entries)
+        # The graphs of all stamps since the store was opened: a cut may leave any of them that is not sure.
+        self._past = [self._graph]
         # Of each batch that stands, or can be done again, the graphs ahead of it and behind it.
         self._standing = []
         self._undone = []
@@ -54,6 +56,7 @@ class Store:
         self._rules = {}
         self._watched = {}
         self._words = {}
+        self._last_reader = 0
         self._last_watcher = 0
 
     def graph(self, number=None):
@@ -99,7 +102,8 @@ class Store:
 
     def look(self):
         """Begin a reader, which sees the graph of now for ever; return its number."""
-        return self.keeper.begin()
+        self._last_reader = self.keeper.begin()
+        return self._last_reader
 
     def leave(self, number):
         """End a reader."""
@@ -223,6 +227,23 @@ class Store:
         """The disk of now."""
         return self.journal.disk()
 
+    def memory(self):
+        """What the store knows: the nine things of which `meaning` tells, in their order."""
+        sure = self.sure()
+        snapshots = self.keeper.snapshots
+        readers = sorted([number for stamp in snapshots.live() for number in snapshots.holders(stamp)])
+        return (
+            (sure, tuple(self._past[len(self._past) - 1 - self.now + sure:])),
+            self.journal.drawn(),
+            tuple([ahead for ahead, _ in self._standing]),
+            tuple([behind for _, behind in self._undone]),
+            tuple([(number, self.graph(number)) for number in readers]),
+            tuple([(name, self._rules[name]) for name in self.rules()]),
+            tuple([(name, self._questions[name]) for name in self.names()]),
+            tuple([(number, self._watched[number], self._words[number]) for number in sorted(self._watched)]),
+            (self._last_reader, self._last_watcher),
+        )
+
     def _need_rules(self, graph):
         for name in self.rules():
             if breaking_walk(graph, self._rules[name]) is not None:
@@ -236,6 +257,7 @@ class Store:
         self.keeper.commit(writes)
         self.now += 1
         self._graph = graph
+        self._past.append(graph)
         for name in self.names():
             came, went = self._kept[name].change(batch)
             if came or went:

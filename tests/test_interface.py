@@ -54,6 +54,20 @@ FUNCTIONS = {
     "pins": """graph_of(pins,name) asked(pins,name,question) effect_between(pins,one,other,question)
         added_effects(first,second) cost(pins,names) held_by(pins,key) values_kept(rows,stamps,now)
         thinned(rows,stamps,now,many)""",
+    "questiontext": "question_text(question) read_question(text)",
+    "counts": """count_walks(graph,ask,steps) walk_at(graph,ask,steps,number) number_of(graph,ask,walk)
+        first_walks(graph,ask,many) total(graph,ask) round_of(graph,ask) check_round(graph,ask,value)""",
+    "asof": """readable_stamps(versions) map_at(versions,stamp) writes_between(versions,one,other) runs(versions,key)
+        written(entries,writes) over(first,second) undo(entries,writes) needed(entries,writes)""",
+    "merging": """clashes(base,one,other) merged(base,one,other) merged_graphs(base,one,other) rebased(pins,name,writes)
+        back(pins,name)""",
+    "folding": """line_graph(word) is_fold(word,onto,value) fold_of(word,onto) folds(word,onto) folded_word(question,onto)
+        front_of(question,kinds,word)""",
+    "within": """loose_word(question,other) is_within(question,other) is_same(question,other) parting_graph(question,other)
+        check_loose(question,other,value) within_paper(question,other) check_within(question,other,value)
+        lean_either(parts)""",
+    "patterns": """need_pattern(value) keeps(graph,pattern,row) rows(graph,pattern) row_walks(graph,pattern,row)
+        lacking(graph,pattern,row) check_row(graph,pattern,row,value) check_lacking(graph,pattern,row,value)""",
     "watchers": "effect_of(pairs,others) put_effect(pairs,effect) all_effects(effects)",
 }
 
