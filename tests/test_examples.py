@@ -183,7 +183,7 @@ class ExamplesTest(unittest.TestCase):
 
     def test_readme(self):
         with open(os.path.join(os.path.dirname(HERE), "README.md"), encoding="utf-8") as held:
-            self.look_at(held.read(), 28)
+            self.look_at(held.read(), 45)
 
     def test_whole_document(self):
         """As it stands now, where it is at hand: so no example is left out here."""

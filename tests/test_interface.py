@@ -1,8 +1,12 @@
-"""The names, parameters and places of all that has landed, as the document's interface lists them."""
+"""The names, parameters and places of all that the document's interface lists."""
 
 import importlib
 import inspect
+import os
+import re
 import unittest
+
+HERE = os.path.dirname(os.path.abspath(__file__))
 
 FUNCTIONS = {
     "keys": """is_key(value) is_value(value) is_entry(value) need_key(value) need_value(value) is_map(value)
@@ -68,6 +72,19 @@ FUNCTIONS = {
         lean_either(parts)""",
     "patterns": """need_pattern(value) keeps(graph,pattern,row) rows(graph,pattern) row_walks(graph,pattern,row)
         lacking(graph,pattern,row) check_row(graph,pattern,row,value) check_lacking(graph,pattern,row,value)""",
+    "spelling": """first_word(question,kinds) missing_word(one,other,kinds) parting_word(one,other,kinds)
+        same_words(one,other,kinds) always_same(one,other) count_words(question,kinds,length)
+        word_at(question,kinds,length,number) total_words(question,kinds) question_of(machine)""",
+    "relations": "related(graph,question)",
+    "prices": """cheapest(graph,ask) heights_for(graph,ask) check_heights(graph,ask,price,value)
+        cheapest_within(graph,ask,steps) trades(graph,ask)""",
+    "joins": """rows_by(graph,pattern,order) sizes_by(graph,pattern,order) sieve(graph,pattern) strikes(graph,pattern)
+        check_strikes(graph,pattern,value)""",
+    "forests": """ring_of_places(pattern) count_rows(graph,pattern) row_at(graph,pattern,number)
+        row_number(graph,pattern,row)""",
+    "running": "meaning(store) behind_cut(state,stamp) step(state,call) run(calls)",
+    "checker": "sheet_holds(word,question,value) contrary(word) sheet_for(word,question)",
+    "desk": "call_text(call) read_call(value) run_lines(lines)",
     "watchers": "effect_of(pairs,others) put_effect(pairs,effect) all_effects(effects)",
 }
 
@@ -96,6 +113,8 @@ METHODS = {
         kept_walk(self,name,one,other) let_go(self,name) names(self) forbid(self,name,question) allow(self,name) rules(self)
         watch(self,name) heard(self,number) unwatch(self,number) sync(self) draw(self) settle(self) sure(self) choices(self)
         cut(self,numbers) disk(self)""",
+    ("desk", "Desk"): """__init__(self,start=((),(),())) say(self,line) said(self) why(self,ask,number=None)
+        shown(self,question,number=None)""",
 }
 
 ERRORS = """StoreError InvalidKey InvalidValue InvalidRange InvalidOctets InvalidGraph InvalidLine InvalidWalk
@@ -132,6 +151,27 @@ class InterfaceTest(unittest.TestCase):
     def test_errors(self):
         for word in ERRORS.split():
             self.assertEqual(vars(module_of("errors"))[word].__module__, "spelledways.errors")
+
+    def test_each_name_of_the_document(self):
+        """Where the document is at hand: each name that it lists stands in its file, each method in its class."""
+        path = os.path.join(os.path.dirname(os.path.dirname(HERE)), "shared", "DOC.md")
+        if not os.path.exists(path):
+            return
+        with open(path, encoding="utf-8") as held:
+            rows = re.findall(r"(?m)^- `spelledways/(\w+)\.py`: (.*)$", held.read())
+        self.assertEqual(len(rows), 44)
+        for name, told in rows:
+            home = vars(module_of(name))
+            told = told.replace(", ", ",").replace(" (", "(")
+            for word, methods in re.findall(r"class `(\w+)\(\.\.\)`\(([^)]*)\)", told):
+                self.assertEqual(home[word].__module__, "spelledways." + name)
+                for method in re.findall(r"`(\w+)`", methods):
+                    special = {"len": "__len__", "in": "__contains__", "root": "root"}.get(method, method)
+                    self.assertIn(special, vars(home[word]), (name, word))
+            told = re.sub(r"class `\w+\(\.\.\)`\([^)]*\)", "", told)
+            for word in re.findall(r"`(\w+)", told):
+                self.assertIn(word, home, name)
+                self.assertEqual(getattr(home[word], "__module__", "spelledways." + name), "spelledways." + name)
 
     def test_values(self):
         self.assertEqual(repr(module_of("pages").EMPTY), "('leaf', ())")
