@@ -1,6 +1,6 @@
 """What stood at a stamp, and what writes lead from one stamp to another."""
 
-from spelledways.keys import need_key, writes_to
+from spelledways.keys import writes_to
 from spelledways.versions import value_at
 
 
@@ -23,7 +23,6 @@ def writes_between(versions, one, other):
 
 def runs(versions, key):
     """The readable stamps in runs of neighbours with one value of a key: triples of the first, the last and it."""
-    need_key(key)
     row = versions.row(key)
     found = []
     for stamp in readable_stamps(versions):

@@ -133,9 +133,9 @@ def check_round(graph, ask, value):
         return False
     node, steps = value[0]
     once = (node, steps + value[1])
-    if not is_walk(graph, once) or not answers_ask(graph, ask, (node, once[1] + value[2])):
+    if not answers_ask(graph, ask, (node, once[1] + value[2])):
         return False
-    # Since the whole walk answers, the machine reads each beginning of it.
+    # Since the whole walk answers, each beginning of it is a walk, and the machine reads it.
     machine = Search(graph, ask).machine
     states = [state_behind(machine, walk_word(walk)) for walk in (value[0], once)]
     return states[0] == states[1] and walk_end(value[0]) == walk_end(once)

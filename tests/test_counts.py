@@ -88,6 +88,8 @@ class CountsTest(Case):
         self.same(number_of(graph=GRAPH, ask=(None, FORWARD, None), walk=("c", ())), 2)
         self.same(count_walks(graph=GRAPH, ask=("q", FORWARD, None), steps=0), 0)
         loop = (("b",), ((BXB, 1),))
+        odd = first_walks(loop, (None, ("row", (A, ("star", ("row", (A, A))))), None), 60)
+        self.same([len(walk[1]) for walk in odd], list(range(1, 60, 2)))
         both = (None, ("star", ("either", (("any", 1), ("any", -1)))), None)
         self.same(count_walks(loop, both, 60), 2 ** 60)
         self.same(walk_at(loop, both, 60, 1), ("b", ((BXB, -1),) * 59 + ((BXB, 1),)))

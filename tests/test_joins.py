@@ -208,6 +208,10 @@ class SieveTest(Case):
         for value in (list(told), ([1, "c", 1],), ((True, "c", 1),), ((1, "c", True),), ((1, "c"),), ((1, "c", 1, 1),), ((1, "q", 1),), ((2, "c", 2),),
                       ((1, "c", 1), (1, "c", 1)), ((-1, "c", 1),), ((1, "c", -1),), ((1, "c", 2),), ((1, "b", 1),), told + told[:1], ((0, "a", 1),)):
             self.assertIs(check_strikes(KGRAPH, PATTERN, value), False, value)
+        broken = (2, ((0, STEP, 1), ("a", STEP, "c")))
+        self.assertIs(check_strikes(KGRAPH, broken, ((0, "a", 0), (1, "b", 1))), True)
+        self.assertIs(check_strikes(KGRAPH, broken, ((0, "a", 1),)), False)
+        self.assertIs(check_strikes(KGRAPH, broken, ((0, "c", 1), (0, "b", 0), (1, "a", 1))), True)
         # A place that is not joined shows nothing; a strike may be right only behind others.
         chain = (3, ((0, STEP, 1), (1, STEP, 2), (2, STEP, "c")))
         self.assertIs(check_strikes(KGRAPH, chain, ((2, "a", 2), (1, "b", 2), (2, "c", 2))), False)

@@ -89,6 +89,14 @@ class CheapestTest(Case):
         self.same(trades(graph, ("a", ("star", A), "c")), ((1, 7), (2, 6), (3, 5)))
         self.same([cheapest_within(graph, ("a", ("star", A), "c"), steps) for steps in (0, 1, 2)], [
             None, (7, ("a", ((("a", "x", "c"), 1),))), (6, ("a", ((("a", "x", "b"), 1), (("b", "x", "c"), 1))))])
+        # A longer walk that is cheaper than the first one, but not than the last one told, is no trade.
+        far[("b", "x", "d")] = 4
+        graph = (("a", "b", "c", "d"), tuple(sorted(far.items())))
+        self.same(trades(graph, ("a", ("star", A), "c")), ((1, 7), (2, 6)))
+        far[("a", "x", "c")] = 70
+        far[("d", "x", "c")] = 0
+        graph = (("a", "b", "c", "d"), tuple(sorted(far.items())))
+        self.same(trades(graph, ("a", ("star", A), "c")), ((1, 70), (2, 6)))
         nodes = tuple(sorted("n" + str(at) for at in range(12)))
         down = {(nodes[0], "x", nodes[at]): 100 - at for at in range(1, 12)}
         down.update({(nodes[at], "x", nodes[at + 1]): 0 for at in range(1, 11)})

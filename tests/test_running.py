@@ -121,7 +121,7 @@ class StepTest(Case):
                     store = Store(store.cut(tuple(rng.choice([0, many - 1, rng.randrange(many)]) for many in store.choices())))
                     known, state = Known(store.now, store.graph()), meaning(store)
         self.assertEqual({word for word, _ in words}, set(SIZES))
-        self.assertTrue({("change", "Refused"), ("let_go", "Refused"), ("forbid", "Refused"), ("heard", "NoName"), ("unwatch", "told"), ("leave", "NoName"),
+        self.assertTrue({("change", "Refused"), ("forbid", "Refused"), ("heard", "NoName"), ("unwatch", "told"), ("leave", "NoName"),
                          ("keep", "InvalidSize"), ("change", "InvalidDeed"), ("ask", "InvalidQuestion"), ("walk", "InvalidAsk")} <= set(words), sorted(words))
 
     def test_cuts_anywhere(self):
@@ -189,7 +189,7 @@ class StepTest(Case):
         state = meaning(Store())
         wrong = [("costs", 1), ("kept_walk", "one", "a", "b"), ("choices",), ("cut", (0, 0, 0)), ("disk",), ("Store",), ("__init__",), ("memory",), ("start",),
                  ("now",), ("journal",), ("graph",), ("graph", None, None), ("change",), ("change", (), ()), ("undo", None), ("look", 1), ("ask", BUS), ("walk", BUS),
-                 ("ask", BUS, None, None), ("keep", "one"), ("sure", ()), ["undo"], "undo", ("Undo",), ("undo ",), (b"undo",), ((),), (None,), (1,), (("undo",),), ()]
+                 ("ask", BUS, None, None), ("keep", "one"), ("sure", ()), ["undo"], "undo", ("Undo",), ("undo ",), (b"undo",), ((),), (None,), (1,), (("undo",),), (), ([],), ([1], 2), ({},), (["graph"], None)]
         for call in wrong + odd_values():
             self.no_command(step, state, call)
             if not (isinstance(call, tuple) and call and call[0] == "cut"):
@@ -233,6 +233,24 @@ class StepTest(Case):
             for call in row:
                 self.look_at_call(store, call)
             self.same(outcome_of(store, row[-1]), ("Refused", "bus"))
+
+    def test_the_next_of_two_is_done_again(self):
+        store = Store()
+        for call in (("change", (("line", AXB, 1),)), ("change", (("cut", AXB), ("node", "c"))), ("undo",), ("undo",), ("forbid", "bus", BUS), ("redo",)):
+            self.look_at_call(store, call)
+        self.same(outcome_of(store, ("redo",)), ("Refused", "bus"))
+        for call in (("allow", "bus"), ("redo",), ("forbid", "free", ("star", ("one", "free", 1))), ("redo",), ("redo",)):
+            self.look_at_call(store, call)
+        self.same(store.graph(), (("a", "b", "c"), ()))
+
+    def test_what_is_watched_is_not_let_go(self):
+        store = Store()
+        told = []
+        for call in (("keep", "one", BUS), ("watch", "one"), ("watch", "one"), ("unwatch", 1), ("let_go", "one"), ("unwatch", 2), ("let_go", "one")):
+            told.append(step(meaning(store), call)[1])
+            self.look_at_call(store, call)
+        self.same(told[1:], [("told", 1), ("told", 2), ("told", None), ("Refused", "watched"), ("told", None), ("told", None)])
+        self.same((store.names(), meaning(store)[8]), ((), (0, 2)))
 
     def test_what_is_handed_in_is_not_changed(self):
         batch = [("node", "a"), ("line", AXB, 3)]

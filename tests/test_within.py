@@ -165,6 +165,12 @@ class WithinTest(Case):
         self.same(is_within(told("[a+ b+]"), told("[a+ a- b+]")), False)
         self.same(is_within(told("[a+ b+]"), told("[a+ <0,6>[a- a+] b+]")), True)
 
+    def test_what_is_seen_is_not_all_that_counts(self):
+        # Behind a and b the same is seen; but only who came by a may turn there, when one comes back to that place.
+        one, other = told("[{a+ b+} a+]"), told("[{a+ b+} a+ a- a- a+ a+]")
+        self.same((loose_word(one, other), loose_word(told("[a+ a+]"), other)), ((("b", 1), UP), None))
+        self.same(loose_word(turned_question(one), turned_question(other)), (DOWN, ("b", -1)))
+
     def test_forms_keep_what_lies_within(self):
         rng = random.Random(353)
         seen = 0
@@ -225,6 +231,8 @@ class LooseTest(Case):
         self.assertIs(check_loose(("any", 1), A, (("zzzz", 1),)), True)
         self.assertIs(check_loose(("star", A), A, ()), True)
         self.assertIs(check_loose(("star", A), ("empty",), ()), False)
+        for word in ((("A", 1),), (("a_", 1),), ((1, 1),), ((None, 1),), (("a", True),), ((["a"], 1),), (("abcde", 1),), (("", 1),)):
+            self.assertIs(check_loose(("any", 1), ("empty",), word), False)
         for value in odd_values() + [[UP, DOWN, UP], (UP, list(DOWN), UP), (UP, DOWN), (UP, ("a", True), UP), (UP, ("A", -1), UP), (UP, DOWN, UP, UP),
                                      (("a", 1, 1),) * 3, "aaa", (UP, ("a", 0), UP)]:
             self.assertIs(check_loose(ZIG, A, value), False)
@@ -308,6 +316,10 @@ class PaperTest(Case):
             self.assertIs(check_within(A, A, (first, (1, ((1,), ((0, 0), (1, value)))))), False)
             self.assertIs(check_within(A, A, (first, (1, ((value,), ((0, 0), (1, 1)))))), False)
         turns = ((0, 0), (1, 1))
+        for value in odd_values() + [2, -1, "0", False]:
+            self.assertIs(check_within(A, A, (first, (1, ((1,), ((value, 0), (1, 1)))))), False)
+            self.assertIs(check_within(A, A, (first, (1, ((1,), ((0, value), (1, 1)))))), False)
+            self.assertIs(check_within(A, A, paper + ((1, ((1,), ((0, 0), (value, 0), (1, 1)))),)), False)
         for value in ((first, (True, ((1,), turns))), (first, (1, ((True,), turns))), (first, (1, ((1,), ((0, 0), (1, True))))), (first, (2, ((1,), turns))),
                       (first, (1, ((2,), turns))), (first, (1, ((1,), turns + ((2, 2),)))), (first, (1, ((1,), turns[::-1]))), (first, (1, ((1, 1), turns))),
                       (first, (1, ([1], turns))), (first, (1, ((1,), list(turns)))), (first, [1, ((1,), turns)]), (first, (1, [(1,), turns])),
