@@ -3,7 +3,7 @@
 Here a front is a pair of masks: (seen, turns), the bits of the seen states, and a tuple that has for each state the
 bits of those in which one can stand at the last place again. The machine need not be single."""
 
-from spelledways.singles import bits_in, leads_of, mask_of
+from spelledways.singles import bits_in, leads_of, mask_of, united_masks
 
 
 def united(rows, mask):
@@ -13,14 +13,6 @@ def united(rows, mask):
         lowest = mask & -mask
         found = found | rows[lowest.bit_length() - 1]
         mask = mask - lowest
-    return found
-
-
-def united_all(rows):
-    """All bits of some rows."""
-    found = 0
-    for row in rows:
-        found = found | row
     return found
 
 
@@ -53,7 +45,7 @@ class Fronts:
         back = self._leads.get((letter[0], -letter[1]), self._nowhere)
         # From each state behind the letter turned: all in which one stands again after a turn and the letter.
         # Seldom more than a few are met so.
-        again = {state: united(there, turns[state]) for state in bits_in(united_all(back))}
+        again = {state: united(there, turns[state]) for state in bits_in(united_masks(back))}
         rounds = closed([united(again, row) for row in back])
         return united(rounds, united(there, seen)), rounds
 

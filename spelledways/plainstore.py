@@ -213,9 +213,12 @@ class PlainStore:
         """Go from the graph of now to another one by one commit."""
         ahead = self.graph()
         self._graphs.append(graph)
-        for number, name in self._watched.items():
+        effects = {}
+        for name in sorted(set(list(self._watched.values()))):
             question = self._questions[name]
-            came, went = effect_of(answers(ahead, question), answers(graph, question))
+            effects[name] = effect_of(answers(ahead, question), answers(graph, question))
+        for number, name in self._watched.items():
+            came, went = effects[name]
             if came or went:
                 self._words[number] = self._words[number] + ((self._stamp_of_now(), came, went),)
 

@@ -19,6 +19,14 @@ def mask_of(states):
     return mask
 
 
+def united_masks(masks):
+    """The number with the bits of some masks."""
+    found = 0
+    for mask in masks:
+        found = found | mask
+    return found
+
+
 def leads_of(steps):
     """For each letter a dict that has for each state the mask of those to which the letter leads."""
     leads = {}

@@ -3,12 +3,15 @@
 from spelledways.errors import InvalidSize
 from spelledways.formulas import turned_question, wide_kinds
 from spelledways.least import least, least_machine, machine_apart, machine_but, state_goes, turned_machine
+from spelledways.machines import as_tuples
 from spelledways.moving import rows_of
 from spelledways.plain import is_number
+from spelledways.residuals import few_states
 from spelledways.tallies import Ways, totals_of
-from spelledways.writing import question_of_steps
+from spelledways.writing import question_of_parts
 
 MOST_LETTERS = 40
+FEW_STATES = 6
 
 
 def first_accepted(machine):
@@ -84,9 +87,13 @@ def total_words(question, kinds):
 
 def question_of(machine):
     """Some question that spells just the words that a machine accepts."""
-    one = least(machine)
-    turned = turned_machine(machine)
-    # The fewer states, the shorter the question; there may be far fewer when the words are read from their end.
-    if machine.many <= min(one.many, turned.many):
-        return question_of_steps(machine)
-    return question_of_steps(one) if one.many <= turned.many else turned_question(question_of_steps(turned))
+    question, letters = question_of_parts(few_states(least(machine)))
+    found = [(letters, 0, question)]
+    # There may be far fewer letters when the words are read from their end, or when a small machine is left as it is.
+    question, letters = question_of_parts(few_states(turned_machine(machine)))
+    found.append((letters, 1, turned_question(question)))
+    if machine.many <= FEW_STATES:
+        states = list(range(machine.many))
+        question, letters = question_of_parts((states, as_tuples(machine.steps), [machine.start], machine.ends))
+        found.append((letters, 2, question))
+    return min(found)[2]

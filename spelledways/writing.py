@@ -1,9 +1,10 @@
 """Machines written as questions: state by state is taken out, and what leads through it is put together."""
 
-from spelledways.machines import as_tuples
-
 NOTHING = ("either", ())
 EMPTY_WORD = ("empty",)
+# The numbers of a begin and an end of their own: so all states between them can be taken out.
+BEGIN = -1
+END = -2
 
 
 def either_of(one, other):
@@ -28,24 +29,24 @@ def row_of(questions):
 class Leads:
     """Which questions lead from state to state; each is kept in a pair with the number of its letters."""
 
-    def __init__(self, machine):
-        self._last = machine.many
-        self._leads = {state: {} for state in range(-1, machine.many + 1)}
-        # A begin and an end of their own, -1 and the last: so all states between can be taken out.
-        self._put(-1, machine.start, EMPTY_WORD, 0)
-        for state in machine.ends:
-            self._put(state, self._last, EMPTY_WORD, 0)
-        for state, letter, behind in as_tuples(machine.steps):
+    def __init__(self, states, steps, starts, ends):
+        self._states = states
+        self._leads = {state: {} for state in states + [BEGIN, END]}
+        for state in starts:
+            self._put(BEGIN, state, EMPTY_WORD, 0)
+        for state in ends:
+            self._put(state, END, EMPTY_WORD, 0)
+        for state, letter, behind in steps:
             self._put(state, behind, ("one",) + letter, 1)
 
-    def question(self):
-        """What leads from the begin to the end."""
-        waiting = list(range(self._last))
+    def told(self):
+        """The pair of what leads from the begin to the end, and the number of its letters."""
+        waiting = self._states
         while waiting:
             state = min([(self._cost(state), state) for state in waiting])[1]
-            waiting.remove(state)
+            waiting = [other for other in waiting if other != state]
             self._take_out(state)
-        return self._leads[-1].get(self._last, (NOTHING, 0))[0]
+        return self._leads[BEGIN].get(END, (NOTHING, 0))
 
     def _put(self, state, behind, question, letters):
         row = self._leads[state]
@@ -78,6 +79,8 @@ class Leads:
                     self._put(ahead, behind, row_of((begin, rounds, end)), letters + many + more)
 
 
-def question_of_steps(machine):
-    """A question that spells just the words that lead by a machine's steps to an end."""
-    return Leads(machine).question()
+def question_of_parts(parts):
+    """A question that spells just the words that lead by steps from a start to an end, and how many letters it has;
+    the parts are states, steps, starts and ends."""
+    states, steps, starts, ends = parts
+    return Leads(states, steps, starts, ends).told()

@@ -6,6 +6,7 @@ from spelledways.formulas import is_question, letters_over, question_spread, spe
 from spelledways.least import least, least_machine
 from spelledways.machines import Machine, machine_of
 from spelledways.questiontext import read_question
+from spelledways.residuals import few_states
 from spelledways.spelling import (always_same, count_words, first_word, missing_word, parting_word, question_of, same_words,
                                   total_words, word_at)
 from tests.common import Case, odd_values
@@ -140,6 +141,29 @@ class WrittenTest(Case):
                 kinds = rng.choice([(), ("a",), ("a", "b", "c")])
                 self.look_at(machine_of(question, kinds))
                 self.look_at(least_machine(question, kinds))
+
+    def test_it_stays_short(self):
+        # Read from the begin this takes 128 states, from the end 9; the other one many both ways, but few needed ones.
+        for text, most in (("[*_+ a+ <6,6>_+]", 40), ("[<6,6>_- a- *_-]", 40), ("*[*[_- !b- _- _- _-] *[*b- _+] *[?a-]]", 400),
+                           ("![[?_- b- b- _-] [*b+ b- _- _-]]", 400), ("*{[a+] *[!_-] *[*_+] [*_+ ?a+] *[?a+ *_+ ?_+]}", 400)):
+            question = read_question(text)
+            for machine in (machine_of(question, ("a", "b")), least_machine(question, ("a", "b"))):
+                self.assertLess(question_spread(self.look_at(machine)), most)
+
+    def test_few_states_accept_the_same(self):
+        rng = random.Random(377)
+        fewer = 0
+        for _ in range(150):
+            machine = least(random_machine(rng, rng.choice([("a",), ("a", "b")]), 5))
+            states, steps, starts, ends = few_states(machine)
+            self.assertTrue(set(states) <= set(range(machine.many)) and set(starts) | set(ends) <= set(states))
+            fewer += len(states) < machine.many
+            for word in words_over(machine.kinds, 4 if len(machine.kinds) < 2 else 2):
+                here = set(starts)
+                for letter in word:
+                    here = {step[2] for step in steps if step[0] in here and step[1] == letter}
+                self.assertIs(bool(here & set(ends)), machine.accepts(word))
+        self.assertGreater(fewer, 20)
 
     def test_edges(self):
         for machine in (Machine((), 1, (), 0, ()), Machine((), 1, (), 0, (0,)), Machine(("a",), 1, ((0, ("a", 1), 0),), 0, (0,)),
